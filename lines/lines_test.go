@@ -1,0 +1,61 @@
+package lines
+
+import (
+	"slices"
+	"strings"
+	"testing"
+
+	"benchwarmer/api"
+)
+
+func itself(line string) string { return line }
+
+func notX(line string) (string, bool) { return line, line != "x" }
+
+// Z9: a line ends at a line feed, which does not belong to it.
+func TestRead(t *testing.T) {
+	for _, x := range []struct {
+		text   string
+		want   []string
+		number int
+		e      api.Errno
+	}{
+		{"", nil, 0, api.OK},
+		{"\n", []string{""}, 0, api.OK},
+		{"a\nb\n", []string{"a", "b"}, 0, api.OK},
+		{"a\r\n\n b \n", []string{"a\r", "", " b "}, 0, api.OK},
+		{"a", nil, 0, api.ErrSyntax},
+		{"a\nb", nil, 1, api.ErrSyntax},
+		{"a\nx\nx\nb", nil, 1, api.ErrSyntax},
+		{"a\nb\nx\n", nil, 2, api.ErrSyntax},
+		{"a\nx", nil, 1, api.ErrSyntax},
+		{"x\n" + strings.Repeat("a", api.MaxText-2), nil, 0, api.ErrSyntax},
+		{"x\n" + strings.Repeat("a", api.MaxText-1), nil, 0, api.ErrLarge},
+	} {
+		l, number, e := Read(x.text, notX)
+		if !slices.Equal(l, x.want) || number != x.number || e != x.e {
+			t.Errorf("%.20q: got %q, %d, %d", x.text, l, number, e)
+		}
+	}
+	if l, _, e := Read(strings.Repeat("\n", api.MaxText), notX); len(l) != api.MaxText || e != api.OK {
+		t.Errorf("got %d lines and %d of a text that just has its place", len(l), e)
+	}
+}
+
+func TestWrite(t *testing.T) {
+	long := strings.Repeat("a", api.MaxText-3)
+	for _, x := range []struct {
+		l    []string
+		want string
+		e    api.Errno
+	}{
+		{nil, "", api.OK},
+		{[]string{"a", "", "b"}, "a\n\nb\n", api.OK},
+		{[]string{long, "b"}, long + "\nb\n", api.OK},
+		{[]string{long, "bb"}, "", api.ErrLarge},
+	} {
+		if s, e := Write(x.l, itself); s != x.want || e != x.e {
+			t.Errorf("%.20q: got %.20q, %d", x.l, s, e)
+		}
+	}
+}
