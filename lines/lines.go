@@ -2,6 +2,8 @@
 package lines
 
 import (
+	"slices"
+	"strconv"
 	"strings"
 
 	"benchwarmer/api"
@@ -36,4 +38,25 @@ func Read[T any](text string, parse func(line string) (T, bool)) ([]T, int, api.
 		text = rest
 	}
 	return l, 0, api.OK
+}
+
+// Words returns the words of a line, with single blanks between; false if one of them is empty.
+func Words(line string) ([]string, bool) {
+	words := strings.Split(line, " ")
+	if slices.Contains(words, "") {
+		return nil, false
+	}
+	return words, true
+}
+
+// Number reads a number of at most so many digits; false if the word is not what is written for it.
+func Number(word string, digits int) (int, bool) {
+	if len(strings.TrimPrefix(word, "-")) > digits {
+		return 0, false
+	}
+	n, err := strconv.Atoi(word)
+	if err != nil || strconv.Itoa(n) != word {
+		return 0, false
+	}
+	return n, true
 }

@@ -59,3 +59,35 @@ func TestWrite(t *testing.T) {
 		}
 	}
 }
+
+func TestWords(t *testing.T) {
+	for line, want := range map[string][]string{
+		"a": {"a"}, "a b": {"a", "b"}, "a\tb -1 é": {"a\tb", "-1", "é"}, "a\r": {"a\r"},
+		"": nil, " ": nil, " a": nil, "a ": nil, "a  b": nil,
+	} {
+		words, right := Words(line)
+		if !slices.Equal(words, want) || right != (want != nil) {
+			t.Errorf("%q: got %q, %v", line, words, right)
+		}
+	}
+}
+
+// Z10: numbers are decimal digits, without a 0 before others, with - before them if they are below 0.
+func TestNumber(t *testing.T) {
+	for word, want := range map[string]int{"0": 0, "7": 7, "-7": -7, "10": 10, "-100": -100, "999": 999, "-999": -999} {
+		if n, right := Number(word, 3); n != want || !right {
+			t.Errorf("%q: got %d, %v", word, n, right)
+		}
+	}
+	for _, word := range []string{"", "-", "-0", "00", "01", "-01", "+1", "+", "--1", "1-", " 1", "1 ", "1_0", "0x1", "1e1", "1.0", "a", "١", "1000", "-1000", "0000", strings.Repeat("9", 200_000)} {
+		if n, right := Number(word, 3); n != 0 || right {
+			t.Errorf("%.20q: got %d, %v", word, n, right)
+		}
+	}
+	if n, right := Number("999999999999999", 15); n != 999_999_999_999_999 || !right {
+		t.Errorf("got %d, %v for 15 digits", n, right)
+	}
+	if n, right := Number("99999999999999999999", 20); n != 0 || right {
+		t.Errorf("got %d, %v for more than an int", n, right)
+	}
+}
