@@ -39,6 +39,13 @@ func Rising(keys []string, most int) api.Errno {
 	})
 }
 
+// Positions returns what is wrong with the positions of somebody, or of something, that has at least one.
+func Positions(l []string) api.Errno {
+	return cmp.Or(
+		Unless(len(l) > 0, api.ErrNone),
+		Rising(l, api.MaxPositions))
+}
+
 // Between says whether a number is from low to high, both among them.
 func Between(n, low, high int) bool {
 	return low <= n && n <= high

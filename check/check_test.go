@@ -81,3 +81,20 @@ func TestRising(t *testing.T) {
 		t.Errorf("got %d for none", e)
 	}
 }
+
+// P1.1 and P3.3: positions of which there must be at least one.
+func TestPositions(t *testing.T) {
+	most := strings.Fields("a b c d e f g h i j")
+	for _, x := range []struct {
+		l    []string
+		want api.Errno
+	}{
+		{nil, api.ErrNone}, {[]string{}, api.ErrNone}, {most[:1], api.OK}, {most, api.OK},
+		{append(most, "k"), api.ErrLarge}, {make([]string, api.MaxPositions+1), api.ErrLarge},
+		{[]string{""}, api.ErrName}, {[]string{"b", "A"}, api.ErrName}, {[]string{"b", "b"}, api.ErrOrder}, {[]string{"b", "a", "A"}, api.ErrOrder},
+	} {
+		if e := Positions(x.l); e != x.want {
+			t.Errorf("%v: got %d, want %d", x.l, e, x.want)
+		}
+	}
+}

@@ -22,8 +22,8 @@ func Write[T any](l []T, line func(x T) string) (string, api.Errno) {
 	return b.String(), api.OK
 }
 
-// Read reads an element from each line; parse says whether a line has its form. With ErrSyntax it returns the number of the first line that is wrong, or not ended.
-func Read[T any](text string, parse func(line string) (T, bool)) ([]T, int, api.Errno) {
+// Read reads an element from each line; parse says whether a line has its form, wrong what is wrong with the elements then. With ErrSyntax it returns the number of the first line that is wrong, or not ended.
+func Read[T any](text string, parse func(line string) (T, bool), wrong func(l []T) api.Errno) ([]T, int, api.Errno) {
 	if len(text) > api.MaxText {
 		return nil, 0, api.ErrLarge
 	}
@@ -36,6 +36,9 @@ func Read[T any](text string, parse func(line string) (T, bool)) ([]T, int, api.
 		}
 		l = append(l, x)
 		text = rest
+	}
+	if e := wrong(l); e != api.OK {
+		return nil, 0, e
 	}
 	return l, 0, api.OK
 }

@@ -12,6 +12,14 @@ func itself(line string) string { return line }
 
 func notX(line string) (string, bool) { return line, line != "x" }
 
+// noY finds what is wrong with all lines together.
+func noY(l []string) api.Errno {
+	if slices.Contains(l, "y") {
+		return api.ErrRule
+	}
+	return api.OK
+}
+
 // Z9: a line ends at a line feed, which does not belong to it.
 func TestRead(t *testing.T) {
 	for _, x := range []struct {
@@ -29,15 +37,19 @@ func TestRead(t *testing.T) {
 		{"a\nx\nx\nb", nil, 1, api.ErrSyntax},
 		{"a\nb\nx\n", nil, 2, api.ErrSyntax},
 		{"a\nx", nil, 1, api.ErrSyntax},
+		{"a\ny\n", nil, 0, api.ErrRule},
+		{"y\nx\n", nil, 1, api.ErrSyntax},
+		{"y\na", nil, 1, api.ErrSyntax},
+		{"y\n" + strings.Repeat("a", api.MaxText-1), nil, 0, api.ErrLarge},
 		{"x\n" + strings.Repeat("a", api.MaxText-2), nil, 0, api.ErrSyntax},
 		{"x\n" + strings.Repeat("a", api.MaxText-1), nil, 0, api.ErrLarge},
 	} {
-		l, number, e := Read(x.text, notX)
+		l, number, e := Read(x.text, notX, noY)
 		if !slices.Equal(l, x.want) || number != x.number || e != x.e {
 			t.Errorf("%.20q: got %q, %d, %d", x.text, l, number, e)
 		}
 	}
-	if l, _, e := Read(strings.Repeat("\n", api.MaxText), notX); len(l) != api.MaxText || e != api.OK {
+	if l, _, e := Read(strings.Repeat("\n", api.MaxText), notX, noY); len(l) != api.MaxText || e != api.OK {
 		t.Errorf("got %d lines and %d of a text that just has its place", len(l), e)
 	}
 }

@@ -24,14 +24,7 @@ func Text(l []api.Play) (string, api.Errno) {
 
 // Read reads plays.
 func Read(text string) ([]api.Play, int, api.Errno) {
-	l, number, e := lines.Read(text, parse)
-	if e != api.OK {
-		return nil, number, e
-	}
-	if e := CheckPlays(l); e != api.OK {
-		return nil, 0, e
-	}
-	return l, 0, api.OK
+	return lines.Read(text, parse, CheckPlays)
 }
 
 func parse(line string) (api.Play, bool) {

@@ -19,8 +19,7 @@ func CheckPlayers(l []api.Player) api.Errno {
 			check.Unless(check.Key(x.Key), api.ErrName),
 			check.Unless(i == 0 || l[i-1].Key < x.Key, api.ErrOrder),
 			check.Unless(title(x.Name), api.ErrForm),
-			check.Unless(len(x.Positions) > 0, api.ErrNone),
-			check.Rising(x.Positions, api.MaxPositions))
+			check.Positions(x.Positions))
 	})
 }
 

@@ -32,14 +32,7 @@ func Text(p []api.Player) (string, api.Errno) {
 
 // Read reads players.
 func Read(text string) ([]api.Player, int, api.Errno) {
-	p, number, e := lines.Read(text, parse)
-	if e != api.OK {
-		return nil, number, e
-	}
-	if e := CheckPlayers(p); e != api.OK {
-		return nil, 0, e
-	}
-	return p, 0, api.OK
+	return lines.Read(text, parse, CheckPlayers)
 }
 
 func parse(line string) (api.Player, bool) {
