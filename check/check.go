@@ -3,6 +3,7 @@ package check
 
 import (
 	"cmp"
+	"slices"
 	"strings"
 	"unicode/utf8"
 
@@ -36,6 +37,15 @@ func Rising(keys []string, most int) api.Errno {
 		return cmp.Or(
 			Unless(Key(keys[i]), api.ErrName),
 			Unless(i == 0 || keys[i-1] < keys[i], api.ErrOrder))
+	})
+}
+
+// Different returns what is wrong with a list of at most so many keys, each one there once.
+func Different(keys []string, most int) api.Errno {
+	return Each(len(keys), most, func(i int) api.Errno {
+		return cmp.Or(
+			Unless(Key(keys[i]), api.ErrName),
+			Unless(!slices.Contains(keys[:i], keys[i]), api.ErrTwice))
 	})
 }
 

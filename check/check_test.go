@@ -82,6 +82,24 @@ func TestRising(t *testing.T) {
 	}
 }
 
+func TestDifferent(t *testing.T) {
+	for _, x := range []struct {
+		keys string
+		want api.Errno
+	}{
+		{"a", api.OK}, {"c a b", api.OK}, {"a- a a_", api.OK},
+		{"a b c d", api.ErrLarge}, {"A A A A", api.ErrLarge},
+		{"a a", api.ErrTwice}, {"b a b", api.ErrTwice}, {"b A b", api.ErrName}, {"b b A", api.ErrTwice}, {"A A a", api.ErrName},
+	} {
+		if e := Different(strings.Split(x.keys, " "), 3); e != x.want {
+			t.Errorf("%s: got %d, want %d", x.keys, e, x.want)
+		}
+	}
+	if e := Different(nil, 0); e != api.OK {
+		t.Errorf("got %d for none", e)
+	}
+}
+
 // P1.1 and P3.3: positions of which there must be at least one.
 func TestPositions(t *testing.T) {
 	most := strings.Fields("a b c d e f g h i j")

@@ -9,6 +9,9 @@ import (
 	"benchwarmer/api"
 )
 
+// MaxDigits is how many digits a number in a line can have at most, in the texts of all chapters.
+const MaxDigits = 15
+
 // Write puts the lines of elements together; ErrLarge if they have more than MaxText bytes.
 func Write[T any](l []T, line func(x T) string) (string, api.Errno) {
 	var b strings.Builder

@@ -33,7 +33,7 @@ func parse(line string) (api.Play, bool) {
 		return api.Play{}, false
 	}
 	number := func(place int) int {
-		n, is := lines.Number(words[place], 15)
+		n, is := lines.Number(words[place], lines.MaxDigits)
 		right = right && is
 		return n
 	}

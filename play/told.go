@@ -11,11 +11,7 @@ import (
 
 // CheckTrust says what is wrong with an order of trust.
 func CheckTrust(trust []string) api.Errno {
-	return check.Each(len(trust), api.MaxSources, func(i int) api.Errno {
-		return cmp.Or(
-			check.Unless(check.Key(trust[i]), api.ErrName),
-			check.Unless(!slices.Contains(trust[:i], trust[i]), api.ErrTwice))
-	})
+	return check.Different(trust, api.MaxSources)
 }
 
 // Told returns the matches with the source that counts.

@@ -10,12 +10,8 @@ import (
 	"benchwarmer/lines"
 )
 
-const (
-	// anywhere stands for the empty Position.
-	anywhere = "-"
-	// maxDigits is how many digits a number that is read can have.
-	maxDigits = 15
-)
+// anywhere stands for the empty Position.
+const anywhere = "-"
 
 // Text writes a line for each rule.
 func Text(r []api.Rule) (string, api.Errno) {
@@ -47,8 +43,8 @@ func parse(line string) (api.Rule, bool) {
 		position = ""
 	}
 	kind := slices.Index(kinds(), words[3]) + 1
-	many, isNumber := lines.Number(words[4], maxDigits)
-	worth, isFraction := fraction.Read(words[5], maxDigits)
+	many, isNumber := lines.Number(words[4], lines.MaxDigits)
+	worth, isFraction := fraction.Read(words[5], lines.MaxDigits)
 	x := api.Rule{Key: words[0], Stat: words[1], Position: position, Kind: kind, Many: many, Worth: worth}
 	return x, kind > 0 && isNumber && isFraction
 }
