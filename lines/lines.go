@@ -1,4 +1,4 @@
-// Package lines writes and reads texts that have a line for each element of a list.
+// Package lines writes and reads texts, most of which have a line for each element of a list.
 package lines
 
 import (
@@ -25,25 +25,36 @@ func Write[T any](l []T, line func(x T) string) (string, api.Errno) {
 	return b.String(), api.OK
 }
 
-// Read reads an element from each line; parse says whether a line has its form, wrong what is wrong with the elements then. With ErrSyntax it returns the number of the first line that is wrong, or not ended.
+// Read reads an element from each line; parse says whether a line has its form, wrong what is wrong with the elements then. Its errors and the number of a line are those of Walk, then those of wrong.
 func Read[T any](text string, parse func(line string) (T, bool), wrong func(l []T) api.Errno) ([]T, int, api.Errno) {
-	if len(text) > api.MaxText {
-		return nil, 0, api.ErrLarge
-	}
 	var l []T
-	for number := 0; text != ""; number++ {
-		line, rest, ended := strings.Cut(text, "\n")
+	number, e := Walk(text, func(line string) bool {
 		x, right := parse(line)
-		if !ended || !right {
-			return nil, number, api.ErrSyntax
-		}
 		l = append(l, x)
-		text = rest
+		return right
+	})
+	if e != api.OK {
+		return nil, number, e
 	}
 	if e := wrong(l); e != api.OK {
 		return nil, 0, e
 	}
 	return l, 0, api.OK
+}
+
+// Walk gives each line to take, which says whether it has its form; ErrLarge if the text has more than MaxText bytes. With ErrSyntax it returns the number of the first line that is wrong, or not ended.
+func Walk(text string, take func(line string) bool) (int, api.Errno) {
+	if len(text) > api.MaxText {
+		return 0, api.ErrLarge
+	}
+	for number := 0; text != ""; number++ {
+		line, rest, ended := strings.Cut(text, "\n")
+		if !take(line) || !ended {
+			return number, api.ErrSyntax
+		}
+		text = rest
+	}
+	return 0, api.OK
 }
 
 // Words returns the words of a line, with single blanks between; false if one of them is empty.

@@ -54,6 +54,34 @@ func TestRead(t *testing.T) {
 	}
 }
 
+// Walk gives the lines in their order, and none behind the first one that is wrong.
+func TestWalk(t *testing.T) {
+	for _, x := range []struct {
+		text   string
+		taken  string
+		number int
+		e      api.Errno
+	}{
+		{"", "", 0, api.OK},
+		{"a\n\nb c\n", "a,,b c,", 0, api.OK},
+		{"a\nx\nb\n", "a,x,", 1, api.ErrSyntax},
+		{"x\nx\n", "x,", 0, api.ErrSyntax},
+		{"a\n" + strings.Repeat("b", api.MaxText-1), "", 0, api.ErrLarge},
+	} {
+		taken := ""
+		number, e := Walk(x.text, func(line string) bool {
+			taken += line + ","
+			return line != "x"
+		})
+		if taken != x.taken || number != x.number || e != x.e {
+			t.Errorf("%.20q: took %q, got %d, %d", x.text, taken, number, e)
+		}
+	}
+	if number, e := Walk("a\nb", func(string) bool { return true }); number != 1 || e != api.ErrSyntax {
+		t.Errorf("not ended: got %d, %d", number, e)
+	}
+}
+
 func TestWrite(t *testing.T) {
 	long := strings.Repeat("a", api.MaxText-3)
 	for _, x := range []struct {
